@@ -1,0 +1,1 @@
+"""Patched without a seam: a hole in a picture is filled exactly, in fractions."""
