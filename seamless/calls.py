@@ -2,7 +2,7 @@
 
 from seamless.equations import rounded
 from seamless.grid import edge_of, place_of
-from seamless.solution import solution_of
+from seamless.solution import off_by, picture_with, solution_of
 
 LONGEST_SIDE = 8
 MOST_HOLE_CELLS = 12
@@ -97,6 +97,11 @@ def tell_solution(page, way):
     return answer
 
 
+def held(number):
+    """The number from 0 to the greatest that a cell may have that is nearest to this one."""
+    return max(0, min(GREATEST_NUMBER, number))
+
+
 def tell_cell(page, way, x, y):
     """cell: one cell's fraction in the solution, rounded, and rounded and held."""
     refusal = refused_way(page, way)
@@ -107,5 +112,39 @@ def tell_cell(page, way, x, y):
         return [-3]
     fraction = solution_of(page, way)[page.hole.index(place)]
     whole = rounded(fraction[0], fraction[1])
-    held = max(0, min(GREATEST_NUMBER, whole))
-    return [0, fraction[0], fraction[1], whole, held]
+    return [0, fraction[0], fraction[1], whole, held(whole)]
+
+
+def tell_off(page, way, numbers):
+    """off: how much these numbers are off, one for each cell of the hole."""
+    refusal = refused_way(page, way)
+    if refusal < 0:
+        return [refusal]
+    if refused_numbers(numbers, len(page.hole)) < 0:
+        return [-3]
+    return [off_by(page, way, numbers)]
+
+
+def fill_hole(page, way):
+    """fill: the solution, rounded and held, is the picture in the hole; the answer is how much it's off."""
+    refusal = refused_way(page, way)
+    if refusal < 0:
+        return [refusal]
+    numbers = [held(rounded(fraction[0], fraction[1])) for fraction in solution_of(page, way)]
+    off = off_by(page, way, numbers)
+    page.picture = picture_with(page, numbers)
+    return [off]
+
+
+def tell_edge(page):
+    """edge: how many cells it has, then the column and the row of each."""
+    edge = edge_of(page, page.hole)
+    answer = [len(edge)]
+    for place in edge:
+        answer.extend((place % page.width, place // page.width))
+    return answer
+
+
+def tell_picture(page):
+    """cells: the picture's numbers."""
+    return list(page.picture)

@@ -38,3 +38,24 @@ def solution_of(page, way):
     # A hole that is granted touches cells outside it with every piece, which makes the weights
     # positive definite, as solved needs them.
     return solved([equation(page, way, place) for place in page.hole])
+
+
+def picture_with(page, numbers):
+    """The picture's numbers with these in the hole, one for each of its cells, in order."""
+    picture = list(page.picture)
+    for place, number in zip(page.hole, numbers):
+        picture[place] = number
+    return picture
+
+
+def off_by(page, way, numbers):
+    """How much these numbers are off, one for each cell of the hole, in order."""
+    picture = picture_with(page, numbers)
+    squares = 0
+    for place in page.hole:
+        # What's wanted is asked of the page, not of the picture with these numbers: in way 2 it looks at
+        # the picture's differences as they are ahead of the call.
+        missed = sum([picture[place] - picture[near] - wanted(page, way, place, near)
+                      for near in places_beside(page, place)])
+        squares += missed * missed
+    return squares

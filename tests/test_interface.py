@@ -4,10 +4,13 @@ import unittest
 from random import Random
 
 from seamless.pages import answers
-from tests.helper import GREATEST, cell, hole, page, patch, raw_hole, solve, some_page
+from tests.helper import (CELLS, EDGE, GREATEST, Model, ask, cell, fill, grid_cells, hole, off, page, patch,
+                          raw_hole, solve, some_line)
 
-LINE = page(3, 1, [10, 20, 50]) + patch([0, 90, 0]) + hole([(1, 0)]) + solve(1) + cell(1, 1, 0) + solve(7)
-TOLD = [1, 0, 1, 0, 1, 2, 3, 0, 120, 1, 5, 0, 120, 1, 120, 120, 1, -2]
+LINE = (page(3, 1, [10, 20, 50]) + patch([0, 90, 0]) + hole([(1, 0)]) + solve(1) + cell(1, 1, 0) + solve(7)
+        + off(1, [100]) + fill(1) + EDGE + CELLS)
+TOLD = [1, 0, 1, 0, 1, 2, 3, 0, 120, 1, 5, 0, 120, 1, 120, 120, 1, -2,
+        1, 1600, 1, 0, 5, 2, 0, 0, 2, 0, 3, 10, 120, 50]
 
 
 def forbidden(*given, **named):
@@ -22,14 +25,8 @@ class Unchanging(list):
 
 
 def long_line(random):
-    """Forty calls, granted and refused."""
-    w, h, picture, patched, cells = some_page(random)
-    calls = [page(w, h, picture), patch(patched), hole(cells)]
-    makers = (lambda: solve(random.randint(0, 3)), lambda: cell(random.randint(0, 3), *random.choice(cells)),
-              lambda: cell(0, random.randint(0, 9), GREATEST), lambda: raw_hole([0] * random.randint(1, 30)),
-              lambda: patch([256] * random.randint(0, 70)), lambda: patch(patched), lambda: page(9, 9, [1] * 70))
-    while len(calls) < 40:
-        calls.append(random.choice(makers)())
+    """Forty calls in one list."""
+    calls, asked = some_line(random)
     return [number for call in calls for number in call]
 
 
@@ -53,13 +50,15 @@ class Interface(unittest.TestCase):
 
     def test_refused_rows_are_passed_over_whole(self):
         # What stands in the rows would be calls itself, if they were read wrongly.
-        calls = page(0, 0, solve(0)) + patch(solve(0)) + raw_hole(page(1, 1, [])) + solve(0)
-        self.assertEqual(answers(calls), [1, -1, 1, -1, 1, -1, 1, -4])
+        calls = page(0, 0, solve(0)) + patch(solve(0)) + raw_hole(page(1, 1, [])) + off(9, fill(0) + CELLS) + solve(0)
+        self.assertEqual(answers(calls), [1, -1, 1, -1, 1, -1, 1, -2, 1, -4])
 
     def test_whole_numbers_and_lists_alone(self):
-        told = answers(LINE)
-        self.assertIs(type(told), list)
-        self.assertEqual({type(number) for number in told}, {int})
+        random = Random(19)
+        for line in [LINE] + [long_line(random) for turn in range(9)]:
+            told = answers(line)
+            self.assertIs(type(told), list)
+            self.assertEqual({type(number) for number in told}, {int})
 
     def test_what_is_handed_in_is_not_changed(self):
         random = Random(9)
@@ -72,12 +71,54 @@ class Interface(unittest.TestCase):
 
     def test_nothing_is_kept(self):
         random = Random(10)
-        lines = [LINE, solve(0), patch([1]), hole([(0, 0)]), cell(0, 0, 0)] + [long_line(random) for turn in range(9)]
+        lines = [LINE, solve(0), patch([1]), hole([(0, 0)]), cell(0, 0, 0), off(0, [0]), fill(0), EDGE, CELLS]
+        lines += [long_line(random) for turn in range(9)]
         first = [answers(line) for line in lines]
         self.assertEqual([answers(line) for line in reversed(lines)], first[::-1])
-        self.assertEqual(first[1:5], [[1, -4], [1, 0], [1, -6], [1, -4]])
+        self.assertEqual(first[1:9], [[1, -4], [1, 0], [1, -6], [1, -4], [1, -4], [1, -4], [1, 0], [1, 0]])
 
     def test_what_is_given_back_is_the_askers_own(self):
         told = answers(LINE)
         told.clear()
         self.assertEqual(answers(LINE), TOLD)
+
+
+class Lines(unittest.TestCase):
+    def test_what_one_call_left_is_seen_by_the_later_ones(self):
+        told = ask(CELLS, EDGE, fill(0), page(4, 1, [0, 100, 7, 9]), CELLS, hole([(1, 0), (2, 0)]), EDGE, solve(0),
+                   off(0, [3, 6]), fill(0), CELLS, off(2, [3, 6]), patch([0, 100, 7, 9]), hole([(1, 0)]), EDGE,
+                   cell(1, 1, 0), fill(1), fill(2), CELLS, page(4, 1, [9] * 3), CELLS, hole([(3, 0)]), fill(3),
+                   solve(2), page(1, 2, [5, 8]), EDGE, CELLS, off(0, [5]), hole([(0, 1)]), off(0, [5]), fill(0),
+                   CELLS)
+        self.assertEqual(told, [
+            [0], [0], [-4], [0], [0, 100, 7, 9], [2], [2, 0, 0, 3, 0], [0, 3, 1, 6, 1],
+            [0], [0], [0, 3, 6, 9], [193 * 193 + 96 * 96], [0], [2], [2, 0, 0, 2, 0],
+            [0, 199, 2, 100, 100], [1], [0], [0, 100, 6, 9], [-1], [0, 100, 6, 9], [1], [-2],
+            [0, 9, 1], [0], [0], [5, 8], [-4], [1], [0], [0],
+            [5, 5]])
+
+    def test_forty_calls_as_the_document_says(self):
+        random = Random(20)
+        kinds = {}
+        for turn in range(150):
+            calls, asked = some_line(random)
+            told = ask(*calls)
+            for at, call in enumerate(calls):
+                self.assertEqual(told[at], asked[at], (at, calls))
+                kinds[call[0], min(asked[at][0], 0)] = True
+        # All nine calls stand there, granted and with each refusal that the promises name.
+        for number, refusals in enumerate(((-1, -2), (-1, -2), (-1, -6), (-2, -4), (-2, -3, -4), (-2, -3, -4),
+                                           (-2, -4), (), ())):
+            for refusal in (0, *refusals):
+                self.assertIn((number, refusal), kinds)
+
+    def test_the_greatest_page_with_twelve_cells_filled_over_and_over(self):
+        picture = [(37 * at + at * at) % 256 for at in range(64)]
+        patched = [(91 * at + 5 * at * at) % 256 for at in range(64)]
+        cells = [(2 + x, 3 + y) for x, y in grid_cells(4, 3)]
+        calls = [page(8, 8, picture), patch(patched), hole(cells), EDGE]
+        for turn in range(9):
+            calls += [solve(2), fill(turn % 3), off(2, picture[:12]), CELLS]
+        model = Model()
+        self.assertEqual(len(calls), 40)
+        self.assertEqual(ask(*calls), [model.answer(call) for call in calls])

@@ -89,6 +89,58 @@ class Language(unittest.TestCase):
             if isinstance(node.func, ast.Attribute):
                 self.assertIn(node.func.attr, METHODS, path)
 
+    def test_each_name_is_bound_once_and_shadows_nothing(self):
+        for path, tree in trees():
+            top = []
+            for part in tree.body:
+                if isinstance(part, ast.Assign):
+                    top.append(part.targets[0].id)
+                elif isinstance(part, (ast.FunctionDef, ast.ClassDef)):
+                    top.append(part.name)
+                elif isinstance(part, ast.ImportFrom):
+                    top.extend(name.asname or name.name for name in part.names)
+            self.assertEqual(len(top), len(set(top)), path)
+            for node in ast.walk(tree):
+                if isinstance(node, ast.arg):
+                    self.assertNotIn(node.arg, top, path)
+                elif isinstance(node, ast.Name) and isinstance(node.ctx, ast.Store) and node.col_offset > 0:
+                    self.assertNotIn(node.id, top, path)
+
+    def test_no_two_files_draw_from_one_another(self):
+        drawn = {}
+        for path, tree in trees():
+            drawn[f"seamless.{path.stem}"] = {part.module for part in tree.body if isinstance(part, ast.ImportFrom)}
+        while drawn:
+            free = [name for name in drawn if not drawn[name] & set(drawn)]
+            self.assertTrue(free, drawn)
+            for name in free:
+                drawn.pop(name)
+
+    def test_comparisons_with_is(self):
+        for path, node in nodes(ast.Compare):
+            for operator, other in zip(node.ops, node.comparators):
+                if isinstance(operator, (ast.Is, ast.IsNot)):
+                    self.assertIsInstance(other, ast.Constant, (path, node.lineno))
+
+    def test_what_is_walked_at_once_is_not_kept(self):
+        walked = ("zip", "enumerate", "reversed", "range", "items", "keys", "values")
+        for path, node in nodes((ast.Assign, ast.Return, ast.AugAssign)):
+            if isinstance(node.value, ast.Call):
+                name = getattr(node.value.func, "id", getattr(node.value.func, "attr", ""))
+                self.assertNotIn(name, walked, (path, node.lineno))
+
+    def test_calls_have_no_stray_keywords(self):
+        for path, node in nodes(ast.Call):
+            for keyword in node.keywords:
+                self.assertIn(keyword.arg, ("key", "default", "reverse", "start", "strict"), (path, node.lineno))
+
+    def test_texts_and_exponents(self):
+        for path, node in nodes(ast.Constant):
+            if isinstance(node.value, str):
+                self.assertNotIn("%", node.value, (path, node.lineno))
+        for path, node in nodes(ast.Pow):
+            self.fail(path)
+
     def test_words_that_stand_nowhere(self):
         for path in FILES:
             self.assertIsNone(WORDS.search(path.read_text()), path)
